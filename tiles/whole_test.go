@@ -1,0 +1,138 @@
+package tiles_test
+
+import (
+	"bytes"
+	"math"
+	"slices"
+	"testing"
+
+	"tiles/api"
+	"tiles/tiles"
+)
+
+// P1
+
+func wildNumbers() []int {
+	out := []int{math.MinInt, math.MinInt + 1, math.MinInt / 2, math.MaxInt/2 - 1, math.MaxInt / 2, math.MaxInt/2 + 1, math.MaxInt/2 + 2, math.MaxInt - 1, math.MaxInt}
+	for i := -3; i < 12; i++ {
+		out = append(out, i)
+	}
+	return out
+}
+
+func TestChecksOfWildNumbersEnd(t *testing.T) {
+	h := wantHash(1)
+	for _, length := range []int{0, 1, 2, 3, 61, 62, 63, 64, 65, 1 << 16} {
+		proof := someHashes(length)
+		for _, one := range wildNumbers() {
+			for _, other := range wildNumbers() {
+				if tiles.Included(h, one, other, proof, api.Hash{}) {
+					t.Errorf("P1: Included of %d of %d with %d strange hashes is true", one, other, length)
+				}
+				if tiles.Consistent(one, other, h, api.Hash{}, proof) {
+					t.Errorf("P1: Consistent of %d of %d with %d strange hashes is true", one, other, length)
+				}
+			}
+		}
+	}
+}
+
+func TestProofsOfWildNumbersEnd(t *testing.T) {
+	for _, list := range [][][]byte{nil, {}, {nil}, {nil, nil}, {{}, nil, {0}}, someEntries(11), make([][]byte, 1000)} {
+		tiles.Root(list)
+		for _, i := range wildNumbers() {
+			path, err := tiles.Path(list, i)
+			inside := i >= 0 && i < len(list)
+			if inside != (err == nil) || !inside && path != nil {
+				t.Errorf("P1: Path of %d of %d = %x, %v", i, len(list), path, err)
+			}
+			proof, err := tiles.Proof(list, i)
+			inside = i >= 1 && i <= len(list)
+			if inside != (err == nil) || !inside && proof != nil {
+				t.Errorf("P1: Proof of %d of %d = %x, %v", i, len(list), proof, err)
+			}
+		}
+	}
+}
+
+// P2
+
+// roomy copies entries into lists with room behind their ends, where a stray append would write.
+func roomy(entries [][]byte) [][]byte {
+	out := make([][]byte, 0, len(entries)+4)
+	for _, e := range entries {
+		out = append(out, append(make([]byte, 0, len(e)+4), e...))
+	}
+	return out
+}
+
+func sameWithRoom(a, b [][]byte) bool {
+	return slices.EqualFunc(a[:cap(a)], b[:cap(b)], func(x, y []byte) bool {
+		return bytes.Equal(x[:cap(x)], y[:cap(y)])
+	})
+}
+
+func TestEntriesAreNotWrittenInto(t *testing.T) {
+	for n := 1; n < 20; n++ {
+		given, before := roomy(someEntries(n)), roomy(someEntries(n))
+		tiles.Root(given)
+		tiles.Leaf(given[0])
+		for i := range n {
+			tiles.Path(given, i)
+			tiles.Proof(given, i+1)
+		}
+		if !sameWithRoom(given, before) {
+			t.Errorf("P2: %d entries were written into", n)
+		}
+	}
+}
+
+func TestProofsAreNotWrittenInto(t *testing.T) {
+	list := someEntries(13)
+	root := wantRoot(list)
+	for i := range list {
+		path := append(wantPath(list, i), someHashes(4)...)
+		proof := append(wantProof(list, i+1), someHashes(4)...)
+		pathBefore, proofBefore := slices.Clone(path), slices.Clone(proof)
+		tiles.Included(wantLeaf(list[i]), i, 13, path[:len(path)-4], root)
+		tiles.Consistent(i+1, 13, wantRoot(list[:i+1]), root, proof[:len(proof)-4])
+		if !slices.Equal(path, pathBefore) || !slices.Equal(proof, proofBefore) {
+			t.Errorf("P2: the path of %d or the proof of %d was written into", i, i+1)
+		}
+	}
+}
+
+func TestWhatComesOutIsTheCallers(t *testing.T) {
+	list := someEntries(13)
+	for i := range list {
+		for _, ask := range []func() ([]api.Hash, error){
+			func() ([]api.Hash, error) { return tiles.Path(list, i) },
+			func() ([]api.Hash, error) { return tiles.Proof(list, i+1) },
+		} {
+			first, _ := ask()
+			second, _ := ask()
+			kept := slices.Clone(second)
+			clear(first[:cap(first)])
+			third, _ := ask()
+			if !slices.Equal(second, kept) || !slices.Equal(third, kept) {
+				t.Errorf("P2: two answers about %d share memory", i)
+			}
+		}
+	}
+}
+
+func TestNothingIsKept(t *testing.T) {
+	list := someEntries(13)
+	path, _ := tiles.Path(list, 6)
+	proof, _ := tiles.Proof(list, 6)
+	wantedPath, wantedProof := wantPath(list, 6), wantProof(list, 6)
+	for i := range list {
+		clear(list[i])
+	}
+	if !slices.Equal(path, wantedPath) || !slices.Equal(proof, wantedProof) {
+		t.Error("P2: an answer has changed with what was handed in")
+	}
+	if tiles.Root(list) != wantRoot(list) {
+		t.Error("P2: a root is that of entries handed in earlier")
+	}
+}
