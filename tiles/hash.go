@@ -41,3 +41,14 @@ func highestFirst(n uint64) api.Hash {
 func node(left, right api.Hash) api.Hash {
 	return hashOf([]byte{nodeMark}, left[:], right[:])
 }
+
+const smallDigits = "0123456789abcdef"
+
+// hexadecimal is a hash as 16 digits.
+func hexadecimal(h api.Hash) string {
+	var out []byte
+	for _, b := range h {
+		out = append(out, smallDigits[b>>4], smallDigits[b&15])
+	}
+	return string(out)
+}

@@ -4,6 +4,7 @@ import (
 	"bytes"
 	"math"
 	"slices"
+	"strings"
 	"testing"
 
 	"tiles/api"
@@ -51,6 +52,35 @@ func TestProofsOfWildNumbersEnd(t *testing.T) {
 			if inside != (err == nil) || !inside && proof != nil {
 				t.Errorf("P1: Proof of %d of %d = %x, %v", i, len(list), proof, err)
 			}
+		}
+	}
+}
+
+func TestFilesOfWildTextsEnd(t *testing.T) {
+	for _, piece := range []string{"0", "9", "a", "/", ".p/", "\n", "\x00", "\xff", "tile/", "entries/", "tiles\n"} {
+		for _, times := range []int{1, 2, 3, 4, 5, 1 << 16} {
+			long := strings.Repeat(piece, times)
+			for _, text := range []string{long, "tile/" + long, "tile/0/" + long + "x", "entries/" + long + "x", "entries/0.p/" + long + "x", "tiles\n0\n" + long} {
+				if l, i, w, ok := tiles.Parse(text); (l != 0 || i != 0 || w != 0) && !ok {
+					t.Errorf("P1: Parse of %d times %q = %d, %d, %d, false", times, piece, l, i, w)
+				}
+				if got, ok := tiles.Check(text, long); ok || got != (api.Trusted{}) {
+					t.Errorf("P1: Check of %d times %q = %v, %v", times, piece, got, ok)
+				}
+				if got, ok := tiles.Unbundle([]byte(text)); !ok && got != nil {
+					t.Errorf("P1: Unbundle of %d times %q = %q, false", times, piece, got)
+				}
+			}
+		}
+	}
+}
+
+func TestSignOfWildNumbersEnds(t *testing.T) {
+	for _, size := range wildNumbers() {
+		text := tiles.Sign(api.Trusted{Size: size}, "k")
+		got, ok := tiles.Check(text, "k")
+		if ok != (size >= 0) || got.Size != max(size, 0) || got.Root != (api.Hash{}) {
+			t.Errorf("P1: Check(%q) = %v, %v", text, got, ok)
 		}
 	}
 }
@@ -134,5 +164,57 @@ func TestNothingIsKept(t *testing.T) {
 	}
 	if tiles.Root(list) != wantRoot(list) {
 		t.Error("P2: a root is that of entries handed in earlier")
+	}
+}
+
+func TestFilesAreNotWrittenInto(t *testing.T) {
+	for n := range 6 {
+		given, before := roomy(someEntries(n)), roomy(someEntries(n))
+		data := tiles.Bundle(given)
+		if !sameWithRoom(given, before) {
+			t.Errorf("P2: Bundle has written into %d entries", n)
+		}
+		given, before = roomy([][]byte{data}), roomy([][]byte{data})
+		tiles.Unbundle(given[0])
+		if !sameWithRoom(given, before) {
+			t.Errorf("P2: Unbundle has written into a bundle of %d", n)
+		}
+	}
+}
+
+func TestBundlesAreTheCallers(t *testing.T) {
+	for n := 1; n <= 4; n++ {
+		entries := someEntries(n)
+		data := tiles.Bundle(entries)
+		other := tiles.Bundle(entries)
+		clear(other[:cap(other)])
+		for i := range entries {
+			clear(entries[i])
+		}
+		if !bytes.Equal(data, wantBundle(someEntries(n))) {
+			t.Errorf("P2: a bundle of %d shares memory: %q", n, data)
+		}
+	}
+}
+
+func TestUnbundledEntriesAreTheCallers(t *testing.T) {
+	for n := 1; n <= 4; n++ {
+		data := wantBundle(someEntries(n))
+		first, _ := tiles.Unbundle(data)
+		second, _ := tiles.Unbundle(data)
+		for i := range first {
+			clear(first[i][:cap(first[i])])
+		}
+		if !sameEntries(second, someEntries(n)) || !bytes.Equal(data, wantBundle(someEntries(n))) {
+			t.Errorf("P2: the entries of a bundle of %d share memory with it or with others", n)
+		}
+		clear(data)
+		for i := range second {
+			want := someEntries(n)[i]
+			if !bytes.Equal(second[i], want) {
+				t.Errorf("P2: entry %d of %d shares memory: %q", i, n, second[i])
+			}
+			clear(second[i][:cap(second[i])])
+		}
 	}
 }
