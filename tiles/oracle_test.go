@@ -3,8 +3,11 @@ package tiles_test
 // What the calls should answer, got by other ways than theirs: the library's FNV-1a for the hash, and whole levels of the tree, from the leaves up, for roots and proofs.
 
 import (
+	"bytes"
+	"fmt"
 	"hash/fnv"
 	"math/bits"
+	"slices"
 	"strconv"
 
 	"tiles/api"
@@ -99,4 +102,39 @@ func wantProof(entries [][]byte, m int) []api.Hash {
 		return way
 	}
 	return append([]api.Hash{levels[level][i]}, way...)
+}
+
+// file is what a store should be asked to put.
+type file struct{ path, data string }
+
+func wantBundles(entries [][]byte) []file {
+	var out []file
+	for group := range slices.Chunk(entries, 4) {
+		out = append(out, file{wantName(-1, len(out), len(group)), string(wantBundle(group))})
+	}
+	return out
+}
+
+// wantTiles cuts the entries into pieces of 1, 4, 16 .. (what is left over has no hash), and the roots of these into fours.
+func wantTiles(entries [][]byte) []file {
+	var out []file
+	for level, span := 0, 1; span <= len(entries); level, span = level+1, span*4 {
+		var row [][]byte
+		for piece := range slices.Chunk(entries, span) {
+			if len(piece) == span {
+				h := wantRoot(piece)
+				row = append(row, h[:])
+			}
+		}
+		index := 0
+		for group := range slices.Chunk(row, 4) {
+			out = append(out, file{wantName(level, index, len(group)), string(bytes.Join(group, nil))})
+			index++
+		}
+	}
+	return out
+}
+
+func wantCheckpoint(entries [][]byte, key string) string {
+	return signed(fmt.Sprintf("tiles\n%d\n%x\n", len(entries), wantRoot(entries)), key)
 }

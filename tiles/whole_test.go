@@ -2,6 +2,8 @@ package tiles_test
 
 import (
 	"bytes"
+	"errors"
+	"fmt"
 	"math"
 	"slices"
 	"strings"
@@ -83,6 +85,98 @@ func TestSignOfWildNumbersEnds(t *testing.T) {
 			t.Errorf("P1: Check(%q) = %v, %v", text, got, ok)
 		}
 	}
+}
+
+// wildStore answers as it likes: one text to every Get (nil: what is there), or a panic.
+type wildStore struct {
+	shelf
+	text   []byte
+	panics string // the call that panics
+}
+
+func (s *wildStore) Put(path string, data []byte) error {
+	if s.panics == "put" {
+		panic("put")
+	}
+	return s.shelf.Put(path, data)
+}
+
+func (s *wildStore) Swap(path string, data []byte) error {
+	if s.panics == "swap" {
+		panic(nil)
+	}
+	return s.shelf.Swap(path, data)
+}
+
+func (s *wildStore) Get(path string) ([]byte, error) {
+	if s.panics == "get" || s.panics == "get "+path {
+		panic(api.ErrTile)
+	}
+	if s.text != nil {
+		return s.text, nil
+	}
+	return s.shelf.Get(path)
+}
+
+func TestOpenOverAStoreWithOneAnswer(t *testing.T) {
+	for _, c := range []struct {
+		text string
+		size int
+		want error
+	}{
+		{"", 0, api.ErrCheckpoint},
+		{"\x00\x00\x00\x00", 0, api.ErrCheckpoint},
+		{strings.Repeat("x", 1<<20), 0, api.ErrCheckpoint},
+		{wantCheckpoint(nil, "k"), 0, nil},
+		{wantCheckpoint(someEntries(3), "k"), 0, api.ErrTile},
+		{signed(fmt.Sprintf("tiles\n%d\n%x\n", math.MaxInt, wantRoot(nil)), "k"), 0, api.ErrTile},
+	} {
+		l, err := tiles.Open(&wildStore{text: []byte(c.text)}, "k")
+		if !errors.Is(err, c.want) || (l == nil) != (err != nil) || l.Size() != c.size {
+			t.Errorf("P1: Open over a store that says only %.50q = %v, %v, want %v", c.text, l, err, c.want)
+		}
+	}
+}
+
+func TestStoresThatPanic(t *testing.T) {
+	for _, call := range []string{"get", "get checkpoint", "get entries/0", "get entries/1.p/1", "get entries/1"} {
+		wantNoLog(t, &wildStore{shelf: *shelfOf(someEntries(5), "k"), panics: call}, "k", api.ErrFailed)
+	}
+	for _, call := range []string{"put", "swap"} {
+		l := mustOpen(t, &wildStore{shelf: *shelfOf(someEntries(5), "k"), panics: call}, "k")
+		if n, err := l.Publish(); n != 0 || err != api.ErrFailed {
+			t.Errorf("P1: Publish over a store that panics = %d, %v", n, err)
+		}
+		wantFailed(t, l, 5)
+	}
+	var none *shelf
+	wantNoLog(t, none, "k", api.ErrFailed)
+}
+
+// onceStore has every file only until it was asked for.
+type onceStore struct{ shelf }
+
+func (s *onceStore) Get(path string) ([]byte, error) {
+	data, err := s.shelf.Get(path)
+	delete(s.files, path)
+	return data, err
+}
+
+func TestOpenOverAStoreThatForgets(t *testing.T) {
+	for n := range 10 {
+		s := &onceStore{*shelfOf(someEntries(n), "k")}
+		for width := 1; width < n%4; width++ {
+			s.files[wantName(-1, n/4, width)] = wantBundle(someEntries(width))
+		}
+		if l := mustOpen(t, s, "k"); l.Size() != n {
+			t.Errorf("P1: over a store that forgets there are %d entries, want %d", l.Size(), n)
+		}
+	}
+}
+
+func TestPublishersThatWereNotOpened(t *testing.T) {
+	wantFailed(t, nil, 0)
+	wantFailed(t, &tiles.Log{}, 0)
 }
 
 // P2
@@ -215,6 +309,56 @@ func TestUnbundledEntriesAreTheCallers(t *testing.T) {
 				t.Errorf("P2: entry %d of %d shares memory: %q", i, n, second[i])
 			}
 			clear(second[i][:cap(second[i])])
+		}
+	}
+}
+
+func TestEntriesThatAreAppendedAreNotKeptOrWrittenInto(t *testing.T) {
+	s := newShelf()
+	l := mustOpen(t, s, "k")
+	for n := range 9 {
+		given, before := roomy(someEntries(n+1)), roomy(someEntries(n+1))
+		mustAppend(t, l, given[n:])
+		if n%3 == 0 {
+			mustPublish(t, l)
+		}
+		if !sameWithRoom(given, before) {
+			t.Errorf("P2: Append or Publish has written into entry %d", n)
+		}
+		clear(given[n][:cap(given[n])])
+	}
+	mustPublish(t, l)
+	for path, data := range shelfOf(someEntries(9), "k").files {
+		if !bytes.Equal(s.files[path], data) {
+			t.Errorf("P2: with entries changed behind Append, %s = %q, want %q", path, s.files[path], data)
+		}
+	}
+}
+
+func TestWhatAStoreHandsOutIsNotKeptOrWrittenInto(t *testing.T) {
+	for n := range 10 {
+		s := shelfOf(someEntries(n), "k")
+		for _, f := range wantBundles(someEntries(n + 6)) {
+			s.files[f.path] = []byte(f.data)
+		}
+		before := s.again()
+		l := mustOpen(t, s, "k")
+		handedOut := s.files
+		s.files = s.again().files
+		for _, data := range handedOut {
+			clear(data[:cap(data)])
+		}
+		mustAppend(t, l, someEntries(n + 7)[n+6:])
+		mustPublish(t, l)
+		for path, data := range before.files {
+			if path != "checkpoint" && !bytes.Equal(s.files[path], data) {
+				t.Errorf("P2: %s has changed: %q, was %q", path, s.files[path], data)
+			}
+		}
+		for path, data := range shelfOf(someEntries(n+7), "k").files {
+			if !bytes.Equal(s.files[path], data) {
+				t.Errorf("P2: opened at %d, %s = %q, want %q", n, path, s.files[path], data)
+			}
 		}
 	}
 }
