@@ -10,7 +10,6 @@ import (
 	"testing"
 
 	"tiles/api"
-	"tiles/tiles"
 )
 
 // someSizes: all up to a tile of 16 hashes and one more, and those around the next levels.
@@ -185,26 +184,6 @@ func TestOpenWithOtherEntries(t *testing.T) {
 	}
 }
 
-func TestOpenOverAStoreThatFails(t *testing.T) {
-	for _, n := range []int{0, 1, 3, 4, 5, 8, 11} {
-		whole := shelfOf(someEntries(n), "k")
-		mustOpen(t, whole, "k")
-		for at := 1; at <= len(whole.calls); at++ {
-			s := shelfOf(someEntries(n), "k")
-			s.failAt = at
-			l, err := tiles.Open(s, "k")
-			path := strings.TrimPrefix(whole.calls[at-1], "get ")
-			p, ok := err.(*api.PathError)
-			if l != nil || !ok || p.Path != path || p.Err == nil {
-				t.Fatalf("P11: Open at the size %d over a store that fails at call %d = %v, %v, want an error at %s", n, at, l, err, path)
-			}
-			if own, ok := p.Err.(*shelfError); !ok || own.call != at {
-				t.Errorf("P11: Open at the size %d over a store that fails at call %d tells %v", n, at, err)
-			}
-		}
-	}
-}
-
 // P12
 
 func TestOpenTakesInWhatIsBehindTheCheckpoint(t *testing.T) {
@@ -232,9 +211,7 @@ func TestWhatIsTakenInAgainIsPublished(t *testing.T) {
 	for n := range 10 {
 		for size := n; size < 20; size++ {
 			s := shelfOf(someEntries(n), "k")
-			for _, f := range wantBundles(someEntries(size)) {
-				s.files[f.path] = []byte(f.data)
-			}
+			s.lay(wantBundles(someEntries(size)))
 			l := mustOpen(t, s, "k")
 			mustAppend(t, l, someEntries(size + 3)[size:])
 			mustPublish(t, l)
@@ -286,9 +263,7 @@ func TestBundlesBehindTheCheckpoint(t *testing.T) {
 		{"other paths", 0, []file{{"entries/00", four}, {"entries/0.p/4", four}, {"entries/0.p/0", ""}, {"entries/-1", four}}, 0},
 	} {
 		s := shelfOf(textEntries("1", "2", "3", "4")[:c.n], "k")
-		for _, f := range c.files {
-			s.files[f.path] = []byte(f.data)
-		}
+		s.lay(c.files)
 		before := s.again()
 		if l := mustOpen(t, s, "k"); l.Size() != c.want || !s.sameFiles(before) {
 			t.Errorf("P12: %s: there are %d entries, want %d", c.what, l.Size(), c.want)
@@ -306,9 +281,7 @@ func TestBundlesBehindTheCheckpoint(t *testing.T) {
 func TestOpenOnlyGets(t *testing.T) {
 	for n := range 10 {
 		s := shelfOf(someEntries(n), "k")
-		for _, f := range wantBundles(someEntries(n + 6)) {
-			s.files[f.path] = []byte(f.data)
-		}
+		s.lay(wantBundles(someEntries(n + 6)))
 		if l := mustOpen(t, s, "k"); l.Size() != n+6 {
 			t.Errorf("P12: there are %d entries, want %d", l.Size(), n+6)
 		}
@@ -522,60 +495,6 @@ func TestPublishSignsWithItsKey(t *testing.T) {
 		}
 		if l := mustOpen(t, s, key); l.Size() != 3 {
 			t.Errorf("P11: opened anew, there are %d entries", l.Size())
-		}
-	}
-}
-
-func TestPublishOverAStoreThatFails(t *testing.T) {
-	entries := someEntries(18)
-	for _, n := range []int{0, 1, 5, 16} {
-		for _, done := range []bool{false, true} {
-			for at := 1; ; at++ {
-				s := shelfOf(entries[:n], "k")
-				l := mustOpen(t, s, "k")
-				mustAppend(t, l, entries[n:])
-				s.calls, s.failAt, s.done = nil, at, done
-				size, err := l.Publish()
-				if err == nil {
-					break
-				}
-				_, path, _ := strings.Cut(s.calls[at-1], " ")
-				p, ok := err.(*api.PathError)
-				if size != 0 || !ok || p.Path != path {
-					t.Fatalf("P15: Publish over a store that fails at call %d = %d, %v, want an error at %s", at, size, err, path)
-				}
-				if own, ok := p.Err.(*shelfError); !ok || own.call != at || len(s.calls) != at {
-					t.Errorf("P15: Publish over a store that fails at call %d tells %v and calls %q", at, err, s.calls)
-				}
-				s.failAt = 0
-				wantFailed(t, l, 18)
-				if len(s.calls) != at {
-					t.Errorf("P14: a publisher that has failed calls %q", s.calls[at:])
-				}
-				wantOpenedAnew(t, s, entries, n)
-			}
-		}
-	}
-}
-
-// wantOpenedAnew: behind a Publish that failed on the way from n entries to all, a new publisher goes on, even with other entries (the shelf refuses to change a file).
-func wantOpenedAnew(t *testing.T, s *shelf, entries [][]byte, n int) {
-	t.Helper()
-	published, _ := tiles.Check(string(s.files["checkpoint"]), "k")
-	if published.Size != n && published.Size != len(entries) {
-		t.Errorf("P15: the checkpoint is of the size %d", published.Size)
-	}
-	l := mustOpen(t, s, "k")
-	size := l.Size()
-	if size < published.Size || size > len(entries) {
-		t.Fatalf("P15: opened anew, there are %d entries, %d are published", size, published.Size)
-	}
-	list := append(slices.Clone(entries[:size]), textEntries("1", "2", "3", "4", "5")...)
-	mustAppend(t, l, list[size:])
-	mustPublish(t, l)
-	for path, data := range shelfOf(list, "k").files {
-		if !bytes.Equal(s.files[path], data) {
-			t.Errorf("P15: opened anew with %d entries, %s = %q, want %q", size, path, s.files[path], data)
 		}
 	}
 }

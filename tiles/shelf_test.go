@@ -15,9 +15,20 @@ import (
 type shelf struct {
 	files  map[string][]byte
 	calls  []string
-	failAt int  // the call that fails (1, 2 ..); all behind it fail too
-	done   bool // the call that fails is done all the same
+	turned []string // files that were to be put with other bytes than they have
+	failAt int      // the call that fails (1, 2 ..); 0: none
+	fault  fault
+	says   error // what it answers if it fails; nil: another shelfError for each call
+	told   error // the last error that it answered
 }
+
+// fault is a way in which a store can fail.
+type fault struct {
+	once bool // only that call fails, and none behind it
+	done bool // what that call was to do is done all the same
+}
+
+func faults() []fault { return []fault{{}, {done: true}, {once: true}, {once: true, done: true}} }
 
 // shelfError has a number, so that no two calls answer the same error.
 type shelfError struct{ call int }
@@ -26,9 +37,7 @@ func (e *shelfError) Error() string { return "the shelf has fallen" }
 
 func newShelf(files ...file) *shelf {
 	s := &shelf{files: map[string][]byte{}}
-	for _, f := range files {
-		s.files[f.path] = []byte(f.data)
-	}
+	s.lay(files)
 	return s
 }
 
@@ -39,19 +48,36 @@ func shelfOf(entries [][]byte, key string) *shelf {
 	return s
 }
 
+// fail has the at-th call from now on fail.
+func (s *shelf) fail(at int, f fault) { s.calls, s.failAt, s.fault = nil, at, f }
+
+func (s *shelf) mend() { s.failAt = 0 }
+
+// lay lays files down beside those that there are.
+func (s *shelf) lay(files []file) {
+	for _, f := range files {
+		s.files[f.path] = []byte(f.data)
+	}
+}
+
 // enter: whether the call is to be done, and its error.
 func (s *shelf) enter(call string) (bool, error) {
 	s.calls = append(s.calls, call)
 	n := len(s.calls)
-	if s.failAt == 0 || n < s.failAt {
+	if s.failAt == 0 || n < s.failAt || n > s.failAt && s.fault.once {
 		return true, nil
 	}
-	return s.done && n == s.failAt, &shelfError{n}
+	s.told = s.says
+	if s.says == nil {
+		s.told = &shelfError{n}
+	}
+	return s.fault.done && n == s.failAt, s.told
 }
 
 func (s *shelf) Put(path string, data []byte) error {
 	do, err := s.enter("put " + path)
 	if old, ok := s.files[path]; ok && !bytes.Equal(old, data) {
+		s.turned = append(s.turned, path)
 		return errors.New("other bytes stand there")
 	}
 	if do {
@@ -72,10 +98,10 @@ func (s *shelf) Swap(path string, data []byte) error {
 
 func (s *shelf) Get(path string) ([]byte, error) {
 	do, err := s.enter("get " + path)
-	if !do || err != nil {
-		return []byte("\x01a"), err
+	if !do {
+		return nil, err
 	}
-	return s.files[path], nil
+	return s.files[path], err
 }
 
 // again is the shelf as a new publisher finds it.

@@ -338,9 +338,7 @@ func TestEntriesThatAreAppendedAreNotKeptOrWrittenInto(t *testing.T) {
 func TestWhatAStoreHandsOutIsNotKeptOrWrittenInto(t *testing.T) {
 	for n := range 10 {
 		s := shelfOf(someEntries(n), "k")
-		for _, f := range wantBundles(someEntries(n + 6)) {
-			s.files[f.path] = []byte(f.data)
-		}
+		s.lay(wantBundles(someEntries(n + 6)))
 		before := s.again()
 		l := mustOpen(t, s, "k")
 		handedOut := s.files
