@@ -27,7 +27,7 @@ func Path(entries [][]byte, i int) ([]api.Hash, error) {
 	if i < 0 || i >= len(entries) {
 		return nil, api.ErrRange
 	}
-	return pathTo(entries, i), nil
+	return rootsOf(entries, pathTo(span{0, len(entries)}, i)), nil
 }
 
 // Included checks such a proof (P5).
@@ -44,7 +44,7 @@ func Proof(entries [][]byte, m int) ([]api.Hash, error) {
 	if m < 1 || m > len(entries) {
 		return nil, api.ErrRange
 	}
-	return part(m, entries, true), nil
+	return rootsOf(entries, part(m, span{0, len(entries)}, true)), nil
 }
 
 // Consistent checks such a proof (P7).
@@ -59,16 +59,51 @@ func Consistent(m int, n int, a api.Hash, b api.Hash, proof []api.Hash) bool {
 // split is the greatest power of 2 below n, which must be at least 2. It is taken from the bits of n: a loop that doubles would overflow at the greatest int.
 func split(n int) int { return 1 << (bits.Len(uint(n-1)) - 1) }
 
-// pathTo is Path of an entry that is there.
-func pathTo(entries [][]byte, i int) []api.Hash {
-	if len(entries) == 1 {
+// span is a run of entries that is a tree within the tree of all. Path and Proof are told as spans: their roots can be had from the entries themselves, and from tiles.
+type span struct{ first, count int }
+
+func (s span) end() int { return s.first + s.count }
+
+// halves are the two of which the root of a span, which must have at least two entries, is the node.
+func (s span) halves() (left, right span) {
+	k := split(s.count)
+	return span{s.first, k}, span{s.first + k, s.count - k}
+}
+
+// rootsOf are the roots of spans of entries.
+func rootsOf(entries [][]byte, spans []span) []api.Hash {
+	var roots []api.Hash
+	for _, s := range spans {
+		roots = append(roots, Root(entries[s.first:s.end()]))
+	}
+	return roots
+}
+
+// pathTo is Path of an entry that is in the span.
+func pathTo(s span, i int) []span {
+	if s.count == 1 {
 		return nil
 	}
-	k := split(len(entries))
-	if i < k {
-		return append(pathTo(entries[:k], i), Root(entries[k:]))
+	left, right := s.halves()
+	if i < left.end() {
+		return append(pathTo(left, i), right)
 	}
-	return append(pathTo(entries[k:], i-k), Root(entries[:k]))
+	return append(pathTo(right, i), left)
+}
+
+// part is PART of P6 for the entries ahead of entry m, which end within the span or with it. While whole is true, they begin with the span: the older root is of just them, so that the one who checks has their root already.
+func part(m int, s span, whole bool) []span {
+	if m == s.end() {
+		if whole {
+			return nil
+		}
+		return []span{s}
+	}
+	left, right := s.halves()
+	if m <= left.end() {
+		return append(part(m, left, whole), right)
+	}
+	return append(part(m, right, false), left)
 }
 
 // rebuildRoot is what P5 rebuilds, for i from 0 to n - 1; false: nothing.
@@ -87,21 +122,6 @@ func rebuildRoot(leaf api.Hash, i, n int, path []api.Hash) (api.Hash, bool) {
 	}
 	right, ok := rebuildRoot(leaf, i-k, n-k, rest)
 	return node(last, right), ok
-}
-
-// part is PART of P6, for m from 1 to the number of entries. While whole is true, the first m entries are all that the older root is of, so that the one who checks has their root already.
-func part(m int, entries [][]byte, whole bool) []api.Hash {
-	if m == len(entries) {
-		if whole {
-			return nil
-		}
-		return []api.Hash{Root(entries)}
-	}
-	k := split(len(entries))
-	if m <= k {
-		return append(part(m, entries[:k], whole), Root(entries[k:]))
-	}
-	return append(part(m-k, entries[k:], false), Root(entries[:k]))
 }
 
 // rebuildRoots is what P7 rebuilds, for m from 1 to n: the root of the first m and that of all n; false: nothing.

@@ -179,6 +179,150 @@ func TestPublishersThatWereNotOpened(t *testing.T) {
 	wantFailed(t, &tiles.Log{}, 0)
 }
 
+// wildRoad answers as it likes: one answer to everything (nil: what is there), or a panic.
+type wildRoad struct {
+	road
+	text   []byte
+	panics string // the path at which it panics
+}
+
+func (r *wildRoad) Fetch(path string) ([]byte, error) {
+	if r.panics == path {
+		panic(api.ErrTile)
+	}
+	if r.text != nil {
+		return r.text, nil
+	}
+	return r.road.Fetch(path)
+}
+
+func TestClientsThatWereNotMade(t *testing.T) {
+	for _, c := range []*tiles.Client{nil, {}} {
+		wantTrusted(t, "not made", c, api.Trusted{})
+		wantNoUpdate(t, "not made", c, api.ErrCheckpoint)
+		for _, i := range wildNumbers() {
+			wantNoRead(t, "not made", c, i, api.ErrRange)
+		}
+	}
+}
+
+func TestTransportsThatPanic(t *testing.T) {
+	entries := someEntries(23)
+	var none *road
+	wantNoUpdate(t, "with a transport that is nil within", tiles.NewClient(none, "k", 16), api.ErrCheckpoint)
+	r := &wildRoad{road: *roadTo(entries)}
+	c := tiles.NewClient(r, "k", 16)
+	r.panics = "checkpoint"
+	wantNoUpdate(t, "which panics", c, api.ErrCheckpoint)
+	r.panics = ""
+	wantUpdate(t, "behind a panic", c, entries, nil)
+	for i := range entries {
+		for _, path := range neededBy(t, entries, i) {
+			c := tiles.NewClient(r, "k", 16)
+			c.Update()
+			r.panics = path
+			wantNoReadAt(t, "with a transport that panics", c, i, path)
+			r.panics = ""
+			wantRead(t, "behind a panic", c, entries, i)
+		}
+	}
+}
+
+func TestTransportsThatPanicAtOneOfTwoNames(t *testing.T) {
+	entries := someEntries(7)
+	r := &wildRoad{road: *roadTo(entries)}
+	r.lay(shelfOf(someEntries(8), "k").files)
+	r.panics = "entries/1.p/3"
+	c := tiles.NewClient(r, "k", 16)
+	c.Update()
+	wantRead(t, "with a panic at the first name", c, entries, 5)
+	r.panics = "entries/1"
+	delete(r.files, "entries/1.p/3")
+	c = tiles.NewClient(r, "k", 16)
+	c.Update()
+	wantNoReadAt(t, "with a panic at the second name", c, 5, "entries/1.p/3")
+}
+
+func TestTransportsWithOneAnswer(t *testing.T) {
+	for _, n := range wildNumbers() {
+		if n < 1 {
+			continue
+		}
+		r := &wildRoad{text: []byte(signed(fmt.Sprintf("tiles\n%d\n%x\n", n, wantHash()), "k"))}
+		c := tiles.NewClient(r, "k", 16)
+		for range 2 {
+			if proof, err := c.Update(); len(proof) != 0 || err != nil {
+				t.Errorf("P1: Update to %d = %x, %v", n, proof, err)
+			}
+			for _, i := range wildNumbers() {
+				if i >= 0 && i < n {
+					wantNoReadAt(t, "with one answer", c, i, wantName(-1, i/4, min(n-i/4*4, 4)))
+				} else {
+					wantNoRead(t, "with one answer", c, i, api.ErrRange)
+				}
+			}
+		}
+	}
+	for _, text := range []string{"", "\x00", strings.Repeat("\x00", 32), strings.Repeat("x", 1<<20)} {
+		c := tiles.NewClient(&wildRoad{text: []byte(text)}, "k", 16)
+		wantNoUpdate(t, "with one answer", c, api.ErrCheckpoint)
+	}
+}
+
+// smooth answers to every path with what has its form.
+type smooth struct {
+	size    int
+	fetches int
+}
+
+func (s *smooth) Fetch(path string) ([]byte, error) {
+	s.fetches++
+	if path == "checkpoint" {
+		return []byte(signed(fmt.Sprintf("tiles\n%d\n%x\n", s.size, wantHash(byte(s.size))), "k")), nil
+	}
+	level, _, width, ok := tiles.Parse(path)
+	switch {
+	case !ok:
+		return nil, errLost
+	case level < 0:
+		return make([]byte, width), nil
+	}
+	return make([]byte, 8*width), nil
+}
+
+func TestTransportsThatAnswerEverythingEnd(t *testing.T) {
+	for _, m := range wildNumbers() {
+		for _, n := range wildNumbers() {
+			if m < 1 || n <= m {
+				continue
+			}
+			s := &smooth{size: m}
+			c := tiles.NewClient(s, "k", 16)
+			c.Update()
+			s.size = n
+			before := c.Trusted()
+			if proof, err := c.Update(); proof != nil || !isUnproved(err) {
+				t.Errorf("P1: Update from %d to %d = %x, %v", m, n, proof, err)
+			}
+			wantTrusted(t, "with lies in the right form", c, before)
+			for _, i := range []int{0, 1, m / 3, m / 2, m - 2, m - 1} {
+				if i < 0 || i >= m {
+					continue
+				}
+				if entry, path, err := c.Read(i); entry != nil || path != nil || !isUnproved(err) {
+					t.Errorf("P1: Read(%d) of %d = %q, %x, %v", i, m, entry, path, err)
+				}
+			}
+			if s.fetches > 1000 {
+				t.Errorf("P1: %d fetches at the sizes %d and %d", s.fetches, m, n)
+			}
+		}
+	}
+}
+
+// isUnproved: ErrProof, or, at levels that have no files, ErrTile.
+func isUnproved(err error) bool { return err == api.ErrProof || isPathError(err, "", api.ErrTile) }
+
 // P2
 
 // roomy copies entries into lists with room behind their ends, where a stray append would write.
@@ -358,5 +502,49 @@ func TestWhatAStoreHandsOutIsNotKeptOrWrittenInto(t *testing.T) {
 				t.Errorf("P2: opened at %d, %s = %q, want %q", n, path, s.files[path], data)
 			}
 		}
+	}
+}
+
+func TestWhatATransportHandsOutIsNotKeptOrWrittenInto(t *testing.T) {
+	entries := someEntries(55)
+	for _, capacity := range []int{0, 2, 16, 1000} {
+		r := roadTo(entries[:1])
+		c := clientAt(t, r, capacity)
+		for n := 2; n <= 55; n += 1 + n/7 {
+			older := c.Trusted().Size
+			r.grow(entries[:n])
+			wantUpdate(t, "over memory that changes", c, entries[:n], wantProof(entries[:n], older))
+			r.spoil()
+			for _, i := range someOf(n) {
+				wantRead(t, "over memory that changes", c, entries[:n], i)
+				r.spoil()
+				wantRead(t, "over memory that has changed", c, entries[:n], i)
+			}
+		}
+		r.spoil()
+		if len(r.written) > 0 {
+			t.Errorf("P2: what came from %q was written into", r.written)
+		}
+	}
+}
+
+func TestWhatAClientAnswersIsTheCallers(t *testing.T) {
+	entries := someEntries(55)
+	for _, capacity := range []int{0, 16, 1000} {
+		r := roadTo(nil)
+		c := clientFrom(t, r, entries[:6], entries, capacity)
+		proof, _ := c.Update()
+		clear(proof[:cap(proof)])
+		for i := range entries {
+			entry, path, _ := c.Read(i)
+			other, otherPath, _ := c.Read(i)
+			clear(entry[:cap(entry)])
+			clear(path[:cap(path)])
+			if !bytes.Equal(other, entries[i]) || !slices.Equal(otherPath, wantPath(entries, i)) {
+				t.Errorf("P2: two answers about %d share memory", i)
+			}
+			wantRead(t, "with an answer that was written into", c, entries, i)
+		}
+		wantTrusted(t, "with answers that were written into", c, trustedOf(entries))
 	}
 }
